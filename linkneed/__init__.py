@@ -1,0 +1,1 @@
+"""Linkneed: units compiled apart, linked into the fewest registers."""

@@ -73,8 +73,9 @@ def _due_twice(graph, read):
                 alike.setdefault(key, []).append(step[0][0])
     found = []
     for marks in list(alike.values()):
-        for mark in [mark for mark in marks if mark in read]:
-            found.extend([("same", mark, one) for one in marks if _is_ahead(tables, makings[one], makings[mark])])
+        for mark in marks:
+            if mark in read:
+                found.extend([("same", mark, one) for one in marks if _is_ahead(tables, makings[one], makings[mark])])
     return found
 
 
@@ -111,7 +112,7 @@ class Folding:
         self.order = forward_order(graph)
         self.tables = dominator_tables(graph)
         self.makings = makings_of(graph)
-        self.words = number_words(graph)
+        self.known_words = number_words(graph)
         self.rows = [list(block[1]) for block in graph[2]]
         self.endings = [block[2] for block in graph[2]]
         self.readers = self._all_readers()
@@ -151,7 +152,7 @@ class Folding:
         return handers
 
     def _fold_step(self, block, index, alike):
-        word = _known_word(self.rows[block][index], self.words)
+        word = _known_word(self.rows[block][index], self.known_words)
         if word is not None:
             self._make_number(block, index, word)
         step = self.rows[block][index]
@@ -173,7 +174,7 @@ class Folding:
         for mark in reads:
             self.readers[mark].pop((block, index), None)
         self.rows[block][index] = (makes, "number", (), word)
-        self.words[makes[0]] = word
+        self.known_words[makes[0]] = word
         self.told.append(("number", makes[0], word))
 
     def _make_same(self, mark, other):

@@ -49,7 +49,7 @@ class ImageRun:
         self.cells = list(args) + [0] * (image[2] - len(args))
         self.many_given = image[4]
         self.places = {address: (title, number) for address, title, number in image[5]}
-        self.most = most
+        self.most_beats = most
         self.beats = 0
         self.told = []
         self.pile = []
@@ -81,7 +81,7 @@ class ImageRun:
         if which == BACK:
             return self._back_row()
         if which == BEAT:
-            if self.beats == self.most:
+            if self.beats == self.most_beats:
                 return ("on",)
             self.beats += 1
         elif which == TELL:

@@ -48,7 +48,7 @@ class Lifting:
         self.nearest = dominators(graph)
         self.tables = dominator_tables(graph)
         self.loops = loops_of(graph)
-        self.words = number_words(graph)
+        self.known_words = number_words(graph)
         self.rows = [list(block[1]) for block in graph[2]]
         self.homes = {mark: place[0] for mark, place in makings_of(graph).items()}
         self.told = []
@@ -67,7 +67,7 @@ class Lifting:
     def _first_due(self, block, outer):
         above = self.tables[outer]
         for index, step in enumerate(self.rows[block]):
-            if is_safe(step, self.words) and all([self.homes[mark] in above for mark in step[2]]):
+            if is_safe(step, self.known_words) and all([self.homes[mark] in above for mark in step[2]]):
                 return index
         return None
 

@@ -1,0 +1,112 @@
+"""What every function keeps to: arguments stay as they were, results are of just the kinds that the document tells."""
+
+import copy
+import unittest
+
+from linkneed import (
+    dropping, edging, folding, graphing, graphkinds, imageruns, judging, kinds, lifting, liveevents, lives, needing, operations,
+    orders, passes, placing, programs, settling, standing, straightening, structures, unitforms, unittexts)
+from linkneed.errors import NeedError
+from tests.samples import CASES, DOWN, LOOP, MAIN, ONE, PAIRS, PICK, SIX, TWICE, TWO
+from tests.test_imageruns import IMAGE
+
+NAMES = ("fold", "drop", "straighten", "lift")
+SETTLED = (
+    folding.due_folds, folding.folded, folding.fold_deeds, dropping.spare_marks, dropping.dropped,
+    straightening.straightened, lifting.loops_of, lifting.lifted, orders.dominators, standing.stands_of, lives.crowds_of,
+    needing.own_need, needing.fullest_spot)
+OF_BLOCKS = (orders.followers, orders.leaders, edging.edge_pairs)
+OF_SPOTS = (lives.awaited_at, lives.alive_at, lives.crowd_at)
+CHECKS = (
+    kinds.is_integer, kinds.is_number, kinds.is_word, kinds.is_title, unitforms.is_expression, unitforms.is_body,
+    unitforms.is_unit, graphkinds.is_graph, graphkinds.is_loose, graphkinds.is_settled, liveevents.is_event,
+    liveevents.is_log)
+OF_ANY = (judging.judge_unit, unittexts.unit_text, programs.lets_program)
+
+
+def calls():
+    """Pairs of a function and its arguments."""
+    for graph in (ONE, TWO, LOOP, SIX, PICK):
+        for function in SETTLED:
+            yield function, (graph,)
+        for block in range(len(graph[2])):
+            for function in OF_BLOCKS:
+                yield function, (graph, block)
+            for function in OF_SPOTS:
+                yield function, (graph, block, 0)
+            yield standing.register_at, (graph, block, 0, 1)
+        for function in (passes.passed, passes.pass_deeds):
+            yield function, (graph, NAMES)
+    for unit in (MAIN, TWICE, CASES, DOWN):
+        title = unit[3][0][0]
+        for function in (placing.places_in, placing.kinds_in, structures.signature_of, graphing.graph_of):
+            yield function, (unit, title)
+        yield settling.settled, (graphing.graph_of(unit, title),)
+    for kind in ("word", "pair", "maybe"):
+        yield structures.structure_of, (PAIRS, kind)
+        yield structures.noughts_of, (structures.structure_of(PAIRS, kind),)
+        yield structures.width_of, (structures.structure_of(PAIRS, kind),)
+    for unit in (MAIN, TWICE, CASES, DOWN, PAIRS):
+        yield judging.judge_unit, (unit,)
+        yield unittexts.unit_text, (unit,)
+    yield programs.lets_program, ((ONE, TWO),)
+    yield operations.operated, ("rem", 7, 0)
+    yield imageruns.run_image, (IMAGE, (5,), 9)
+
+
+def is_plain(value):
+    if isinstance(value, tuple):
+        return all(map(is_plain, value))
+    return value is None or isinstance(value, str) or isinstance(value, int) and not isinstance(value, bool)
+
+
+class ArgumentsTest(unittest.TestCase):
+    def test_arguments_stay_and_results_are_plain(self):
+        for function, args in calls():
+            before = copy.deepcopy(args)
+            result = function(*args)
+            self.assertEqual(args, before)
+            self.assertTrue(is_plain(result), (function, result))
+            self.assertEqual(function(*args), result)
+
+    def test_any_values_stay(self):
+        things = ([], [["fold"], [1]], ("put", list(TWICE)), ([LOOP],), ("g", 0, [((), (), ("give", []))]), (3, (), [("drop", "a")]))
+        for thing in things:
+            before = copy.deepcopy(thing)
+            for function in CHECKS:
+                self.assertIs(function(thing), False)
+            for function in OF_ANY:
+                self.assertRaises(NeedError, function, thing)
+            self.assertRaises(NeedError, passes.passed, ONE, thing)
+            self.assertRaises(NeedError, structures.structure_of, PAIRS, thing)
+            self.assertRaises(NeedError, operations.operated, thing, thing, thing)
+            self.assertEqual(thing, before)
+
+    def test_checks_give_bools(self):
+        for function in CHECKS:
+            for thing in (0, 1, "a", (), LOOP, MAIN, ("number", 1), ("drop", "a"), (1, (), ())):
+                self.assertIn(function(thing), (True, False))
+                self.assertIsInstance(function(thing), bool)
+
+    def test_an_error_keeps_the_very_value(self):
+        thing = ["main"]
+        for function in (placing.places_in, placing.kinds_in, structures.signature_of, graphing.graph_of):
+            try:
+                function(MAIN, thing)
+            except NeedError as error:
+                self.assertIs(error.title, thing)
+            else:
+                self.fail(function)
+
+    def test_deep_values(self):
+        deep_tuple, deep_list = (), []
+        for _ in range(40):
+            deep_tuple, deep_list = (deep_tuple, "number"), [deep_list]
+        for function in CHECKS:
+            self.assertIs(function(deep_tuple), False)
+            self.assertIs(function(deep_list), False)
+            self.assertIs(function((0,) * 5000), False)
+
+
+if __name__ == "__main__":
+    unittest.main()

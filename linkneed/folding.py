@@ -20,7 +20,7 @@ def due_folds(graph):
             word = _known_word(step, words)
             if word is not None:
                 found[("number", step[0][0], word)] = True
-            if step[1] == "copy" and step[0][0] in read and step[0] != step[2]:
+            if step[1] == "copy" and step[0][0] in read:
                 found[("same", step[0][0], step[2][0])] = True
     for deed in _due_twice(graph, read):
         found[deed] = True

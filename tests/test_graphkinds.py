@@ -92,6 +92,14 @@ class GraphKindsTest(unittest.TestCase):
         self.check(with_blocks(((0,), (), ("to", 1, ())), GIVE), True, True, True)
         self.check(with_blocks(((0,), (), ("by", 0, 2, 1)), GIVE, GIVE), True, True, True)
 
+    def test_by_endings(self):
+        first = ((), (((5,), "number", (), 1),))
+        self.check(with_blocks(first + (("by", 5, 1, 2),), GIVE, GIVE), True, True, True)
+        for ending in (("by", -1, 1, 2), ("by", True, 1, 2), ("by", None, 1, 2), ("by", 5, 0, 1), ("by", 5, 1, 0),
+                       ("by", 5, 1, 3), ("by", 5, 3, 1), ("by", 5, True, 2), ("by", 5, 2, True), ("by", 5, 1, 2, 0)):
+            self.check(with_blocks(first + (ending,), GIVE, GIVE), False, False, False)
+            self.check(with_blocks(first + (ending,), GIVE), False, False, False)
+
     def test_gives(self):
         self.check(with_blocks(((0,), (), ("give", (0, 0))), gives=2), True, True, True)
         self.check(with_blocks(((0,), (), ("give", (0,))), gives=2), False, False, False)

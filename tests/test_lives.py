@@ -1,5 +1,7 @@
 import unittest
 
+from linkneed.dropping import dropped
+from linkneed.folding import folded
 from linkneed.lives import alive_at, awaited_at, crowd_at, crowds_of
 from linkneed.needing import fullest_spot, own_need
 from tests import oracles
@@ -14,6 +16,12 @@ class LivesTest(unittest.TestCase):
     def test_example(self):
         self.assertEqual([awaited_at(LOOP, 2, 1), alive_at(LOOP, 2, 2), crowd_at(LOOP, 4, 0), crowds_of(TWO)],
                          [(2, 4), (2, 4, 5), 1, ((1, 1, 2, 2, 1),)])
+
+    def test_behind_the_call_of_two(self):
+        self.assertEqual([alive_at(TWO, 0, 2), own_need(TWO), own_need(ONE)], [(0, 1), 2, 1])
+        self.assertEqual(alive_at(LOOP, 2, 2), (2, 4, 5))
+        # The copy, read by nothing once folded, is alive beside what the call makes.
+        self.assertEqual([own_need(folded(TWO)), own_need(dropped(folded(TWO)))], [3, 2])
 
     def test_loop(self):
         self.assertEqual([awaited_at(LOOP, block, 0) for block in range(5)], [(0,), (2, 3), (2, 3), (3,), ()])

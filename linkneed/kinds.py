@@ -4,6 +4,7 @@ LETTERS = "abcdefghijklmnopqrstuvwxyz"
 DIGITS = "0123456789"
 WORD_BOUND = 65536
 LONGEST_TITLE = 12
+GREATEST_SIZE = 16
 KEPT_WORDS = (
     "unit", "shape", "use", "function", "take", "gives", "end", "let", "set", "if", "else", "loop", "when", "case",
     "tell", "give", "number", "name", "call", "word", "add", "sub", "mul", "div", "rem", "less", "same",
@@ -23,6 +24,11 @@ def is_number(thing):
 def is_word(thing):
     """Whether any value is a number below 65536."""
     return is_number(thing) and thing < WORD_BOUND
+
+
+def is_size(thing):
+    """Whether any value is a number of registers that a machine may have."""
+    return is_number(thing) and 1 <= thing <= GREATEST_SIZE
 
 
 def is_title(thing):

@@ -1,10 +1,8 @@
 """Events and logs of a live bench."""
 
-from linkneed.kinds import is_number, is_title
+from linkneed.kinds import is_size, is_title
 from linkneed.passes import are_passes
 from linkneed.unitforms import is_unit
-
-GREATEST_SIZE = 16
 
 
 def is_event(thing):
@@ -18,11 +16,6 @@ def is_event(thing):
     if thing[0] == "passes":
         return are_passes(thing[1])
     return thing[0] == "registers" and is_size(thing[1])
-
-
-def is_size(thing):
-    """Whether any value is a number of registers that a bench may have."""
-    return is_number(thing) and 1 <= thing <= GREATEST_SIZE
 
 
 def is_log(thing):

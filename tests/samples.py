@@ -33,6 +33,21 @@ PICK = ("pick", 1, (
     ((2,), (), ("give", (2,)))))
 PAIR = ("pair", 2, (((0,), (), ("give", (0, 0))),))
 FAR = ("far", 1, (((0, 1, 2), (((3,), "call", (0,), ("twice", 0)), ((4,), "add", (2, 3), 0)), ("give", (4,))),))
+FIVE = (
+    ("main", 3, (("even", 1), ("odd", 2), ("leaf", 0))), ("even", 2, (("odd", 1),)), ("odd", 4, (("even", 3), ("leaf", 2))),
+    ("leaf", 1, ()), ("spare", 9, (("ghost", 1),)))
+A = ("twice", ("word",), "word", 1, ((("beat",), ("add", 0, 0, 0), ("back",)),))
+B = ("main", ("word",), "word", 2, ((("beat",), ("call", "twice", 0, (0,), (0,), 1), ("add", 0, 1, 0), ("back",)),))
+RING = ("main", ("word",), "word", 2, (
+    (("beat",), ("nought", 0, 2)),
+    (("number", 1, 1), ("sub", 1, 0, 1), ("call", "main", 0, (0,), (1,), 1), ("add", 0, 1, 0), ("back",)),
+    (("back",),)))
+ROUND = ("main", 1, (
+    ((0,), (BEAT,), ("by", 0, 1, 2)),
+    ((), (((1,), "number", (), 1), ((2,), "sub", (0, 1), 0), ((3,), "call", (2,), ("main", 0)), ((4,), "add", (3, 0), 0)),
+     ("give", (4,))),
+    ((), (), ("give", (0,)))))
+ALONE = ("b", (), (), (("main", (), "word", (("give", ("number", 4)),)),))
 
 OPERATIONS = ("add", "sub", "mul", "div", "rem", "less", "same")
 

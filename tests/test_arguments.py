@@ -4,10 +4,11 @@ import copy
 import unittest
 
 from linkneed import (
-    dropping, edging, folding, graphing, graphkinds, imageruns, judging, kinds, lifting, liveevents, lives, needing, operations,
-    orders, passes, placing, programs, settling, standing, straightening, structures, unitforms, unittexts)
+    acrossing, basing, bundling, changes, compiling, dropping, edging, folding, graphing, graphkinds, imageruns, judging, kinds,
+    laying, lifting, linking, live, liveevents, lives, needing, operations, orders, passes, pieces, placing, programs, ringing,
+    rowkinds, rowruns, settling, sheets, standing, straightening, structures, transferring, unitforms, unittexts)
 from linkneed.errors import NeedError
-from tests.samples import CASES, DOWN, LOOP, MAIN, ONE, PAIRS, PICK, SIX, TWICE, TWO
+from tests.samples import A, B, CASES, DOWN, FIVE, LOOP, MAIN, ONE, PAIRS, PICK, RING, SIX, TWICE, TWO
 from tests.test_imageruns import IMAGE
 
 NAMES = ("fold", "drop", "straighten", "lift")
@@ -20,8 +21,12 @@ OF_SPOTS = (lives.awaited_at, lives.alive_at, lives.crowd_at)
 CHECKS = (
     kinds.is_integer, kinds.is_number, kinds.is_word, kinds.is_title, unitforms.is_expression, unitforms.is_body,
     unitforms.is_unit, graphkinds.is_graph, graphkinds.is_loose, graphkinds.is_settled, liveevents.is_event,
-    liveevents.is_log)
-OF_ANY = (judging.judge_unit, unittexts.unit_text, programs.lets_program)
+    liveevents.is_log, transferring.is_transfers, sheets.is_sheet, sheets.is_sheets, rowkinds.is_row, rowkinds.is_piece,
+    rowkinds.is_object)
+OF_TRANSFERS = (transferring.transfer_rows, transferring.unlike_pairs, transferring.closed_rings)
+OF_SHEETS = (ringing.rings_of, basing.bases_of, basing.need_of)
+OF_ANY = (judging.judge_unit, unittexts.unit_text, programs.lets_program, bundling.bundle) + OF_TRANSFERS + OF_SHEETS
+OBJECT = ((), (B, A))
 
 
 def calls():
@@ -49,7 +54,23 @@ def calls():
     for unit in (MAIN, TWICE, CASES, DOWN, PAIRS):
         yield judging.judge_unit, (unit,)
         yield unittexts.unit_text, (unit,)
+        for names in ((), NAMES):
+            yield compiling.compile_unit, (unit, names)
     yield programs.lets_program, ((ONE, TWO),)
+    yield acrossing.across_at, (TWO, 0, 1)
+    yield sheets.sheets_of, ((ONE, TWO),)
+    yield pieces.piece_of, (LOOP, ("word",), "word")
+    for function in OF_TRANSFERS:
+        yield function, (((0, 1), (1, 0), (2, 0), (3, 3)),)
+    yield transferring.moved_by, ((("move", 2, 0), ("swap", 0, 1)), (7, 8, 9))
+    for function in OF_SHEETS:
+        yield function, (FIVE,)
+    yield ringing.reached_from, (FIVE, "main")
+    yield bundling.bundle, ((OBJECT, ((("f", (), "word"),), ())),)
+    yield laying.laid, (RING, (("main", 0),), (("main",),))
+    yield linking.link, (OBJECT, 2)
+    yield rowruns.run_linked, (linking.link(OBJECT, 2), (5,), 9)
+    yield changes.changes_between, (OBJECT, ((), (RING,)))
     yield operations.operated, ("rem", 7, 0)
     yield imageruns.run_image, (IMAGE, (5,), 9)
 
@@ -80,6 +101,14 @@ class ArgumentsTest(unittest.TestCase):
             self.assertRaises(NeedError, passes.passed, ONE, thing)
             self.assertRaises(NeedError, structures.structure_of, PAIRS, thing)
             self.assertRaises(NeedError, operations.operated, thing, thing, thing)
+            self.assertRaises(NeedError, ringing.reached_from, thing, thing)
+            self.assertRaises(NeedError, ringing.is_ring_call, FIVE, thing, thing)
+            self.assertRaises(NeedError, compiling.compile_unit, MAIN, thing)
+            self.assertRaises(NeedError, transferring.moved_by, thing, (1, 2))
+            self.assertRaises(NeedError, linking.link, thing, 2)
+            self.assertRaises(NeedError, changes.changes_between, OBJECT, thing)
+            self.assertRaises(NeedError, live.LiveBench, 1, thing)
+            self.assertRaises(NeedError, live.LiveBench(1, ()).go, thing)
             self.assertEqual(thing, before)
 
     def test_checks_give_bools(self):
@@ -90,9 +119,10 @@ class ArgumentsTest(unittest.TestCase):
 
     def test_an_error_keeps_the_very_value(self):
         thing = ["main"]
-        for function in (placing.places_in, placing.kinds_in, structures.signature_of, graphing.graph_of):
+        for function, first in ((placing.places_in, MAIN), (placing.kinds_in, MAIN), (structures.signature_of, MAIN),
+                                (graphing.graph_of, MAIN), (ringing.reached_from, FIVE)):
             try:
-                function(MAIN, thing)
+                function(first, thing)
             except NeedError as error:
                 self.assertIs(error.title, thing)
             else:

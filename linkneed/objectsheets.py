@@ -1,0 +1,18 @@
+"""The sheets of an object that lacks nothing."""
+
+from linkneed.errors import Missing
+from linkneed.rowkinds import open_rows_of
+
+
+def sheets_of_object(one):
+    """The sheets of the object's pieces, ascending; Missing if it has a use, or no main."""
+    if len(one[0]) > 0:
+        raise Missing(one[0][0][0])
+    sheets = tuple([_sheet_of_piece(piece) for piece in one[1]])
+    if not any([sheet[0] == "main" for sheet in sheets]):
+        raise Missing("main")
+    return sheets
+
+
+def _sheet_of_piece(piece):
+    return (piece[0], piece[3], tuple([(row[1], len(row[3])) for row in open_rows_of(piece)]))

@@ -1,7 +1,7 @@
 """Whether a unit is fit."""
 
 from linkneed.bodyjudging import kinds_of_body
-from linkneed.errors import NotUsable, Unfit
+from linkneed.errors import NotUsable, Unfit, UnitError
 from linkneed.unitforms import is_unit
 
 
@@ -22,6 +22,15 @@ def judge_unit(unit):
         _judge_params(function[1], kinds, (3, at, 1))
         _judge_kind(function[2], kinds, (3, at, 2))
     return sum([len(kinds_of_body(unit, number)) for number in range(len(unit[3]))])
+
+
+def is_fit(unit):
+    """Whether any value is a fit unit."""
+    try:
+        judge_unit(unit)
+    except UnitError:
+        return False
+    return True
 
 
 def _judge_title(title, titles, path):

@@ -26,6 +26,13 @@ def is_word(thing):
     return is_number(thing) and thing < WORD_BOUND
 
 
+def is_number_set(thing):
+    """Whether any value is an ascending tuple of numbers."""
+    if not isinstance(thing, tuple) or not all([is_number(one) for one in thing]):
+        return False
+    return all([one < other for one, other in zip(thing, thing[1:])])
+
+
 def is_size(thing):
     """Whether any value is a number of registers that a machine may have."""
     return is_number(thing) and 1 <= thing <= GREATEST_SIZE

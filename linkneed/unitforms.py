@@ -73,12 +73,13 @@ def is_unit(thing):
     return all([is_function(function) for function in thing[3]])
 
 
-def _is_kind(thing):
+def is_kind(thing):
+    """Whether any value is "word" or a title."""
     return is_title(thing) or thing == "word"
 
 
 def _are_kinds(thing):
-    return isinstance(thing, tuple) and all([_is_kind(kind) for kind in thing])
+    return isinstance(thing, tuple) and all([is_kind(kind) for kind in thing])
 
 
 def _is_shape(thing):
@@ -93,17 +94,17 @@ def _is_shape(thing):
 def _is_use(thing):
     if not isinstance(thing, tuple) or len(thing) != 3:
         return False
-    return is_title(thing[0]) and _are_kinds(thing[1]) and _is_kind(thing[2])
+    return is_title(thing[0]) and _are_kinds(thing[1]) and is_kind(thing[2])
 
 
 def is_function(thing):
     """Whether any value has the form of a function of a unit."""
     if not isinstance(thing, tuple) or len(thing) != 4 or not is_title(thing[0]):
         return False
-    return _are_params(thing[1]) and _is_kind(thing[2]) and is_body(thing[3])
+    return _are_params(thing[1]) and is_kind(thing[2]) and is_body(thing[3])
 
 
 def _are_params(thing):
     if not isinstance(thing, tuple):
         return False
-    return all([_is_pair(param) and is_title(param[0]) and _is_kind(param[1]) for param in thing])
+    return all([_is_pair(param) and is_title(param[0]) and is_kind(param[1]) for param in thing])

@@ -4,9 +4,10 @@ import copy
 import unittest
 
 from linkneed import (
-    acrossing, basing, bundling, changes, compiling, dropping, edging, folding, graphing, graphkinds, imageruns, judging, kinds,
-    laying, lifting, linking, live, liveevents, lives, needing, operations, orders, passes, pieces, placing, programs, ringing,
-    rowkinds, rowruns, settling, sheets, standing, straightening, structures, transferring, unitforms, unittexts)
+    acrossing, basing, binding, bundling, changes, compiling, counting, dropping, edging, folding, graphing, graphkinds, imageruns,
+    joining, judging, kinds, laying, lifting, linking, live, liveevents, lives, needing, operations, orders, passes, pieces,
+    placing, programs, replaying, ringing, rowkinds, rowruns, settling, sheets, spotchecker, standing, straightening,
+    structures, transferring, treeruns, unitclasses, unitforms, uniting, unitreadings, unitsclasses, unittexts, values)
 from linkneed.errors import NeedError
 from tests.samples import A, B, CASES, DOWN, FIVE, LOOP, MAIN, ONE, PAIRS, PICK, RING, SIX, TWICE, TWO
 from tests.test_imageruns import IMAGE
@@ -25,7 +26,11 @@ CHECKS = (
     rowkinds.is_object)
 OF_TRANSFERS = (transferring.transfer_rows, transferring.unlike_pairs, transferring.closed_rings)
 OF_SHEETS = (ringing.rings_of, basing.bases_of, basing.need_of)
-OF_ANY = (judging.judge_unit, unittexts.unit_text, programs.lets_program, bundling.bundle) + OF_TRANSFERS + OF_SHEETS
+OF_ANY = (
+    judging.judge_unit, unittexts.unit_text, programs.lets_program, bundling.bundle, binding.lets_units, unitreadings.read_unit,
+    replaying.replayed, unitclasses.Written, unitclasses.Judged, unitsclasses.House) + OF_TRANSFERS + OF_SHEETS
+OF_RUNS = (treeruns.run_units, counting.entries_of, counting.open_most)
+UNITS = (TWICE, MAIN)
 OBJECT = ((), (B, A))
 
 
@@ -47,6 +52,7 @@ def calls():
         for function in (placing.places_in, placing.kinds_in, structures.signature_of, graphing.graph_of):
             yield function, (unit, title)
         yield settling.settled, (graphing.graph_of(unit, title),)
+        yield joining.joins_of, (graphing.graph_of(unit, title),)
     for kind in ("word", "pair", "maybe"):
         yield structures.structure_of, (PAIRS, kind)
         yield structures.noughts_of, (structures.structure_of(PAIRS, kind),)
@@ -54,6 +60,7 @@ def calls():
     for unit in (MAIN, TWICE, CASES, DOWN, PAIRS):
         yield judging.judge_unit, (unit,)
         yield unittexts.unit_text, (unit,)
+        yield unitreadings.read_unit, (unittexts.unit_text(unit),)
         for names in ((), NAMES):
             yield compiling.compile_unit, (unit, names)
     yield programs.lets_program, ((ONE, TWO),)
@@ -71,6 +78,15 @@ def calls():
     yield linking.link, (OBJECT, 2)
     yield rowruns.run_linked, (linking.link(OBJECT, 2), (5,), 9)
     yield changes.changes_between, (OBJECT, ((), (RING,)))
+    for function in OF_RUNS:
+        yield function, (UNITS, (5,), 9)
+    yield binding.lets_units, (UNITS,)
+    yield uniting.as_one, (UNITS, "all")
+    yield uniting.split_up, (UNITS,)
+    yield values.nested_of, (((), ("word",)), (1, 9))
+    yield values.flat_of, (((), ("word",)), (1, (9,)))
+    yield spotchecker.lets_spot, (LOOP, (2, 1, (2, 4)))
+    yield joining.lets_placing, (graphing.graph_of(DOWN, "down"), ((1, 0), (2, 0)))
     yield operations.operated, ("rem", 7, 0)
     yield imageruns.run_image, (IMAGE, (5,), 9)
 
@@ -109,6 +125,15 @@ class ArgumentsTest(unittest.TestCase):
             self.assertRaises(NeedError, changes.changes_between, OBJECT, thing)
             self.assertRaises(NeedError, live.LiveBench, 1, thing)
             self.assertRaises(NeedError, live.LiveBench(1, ()).go, thing)
+            self.assertRaises(NeedError, treeruns.run_units, UNITS, thing, 9)
+            self.assertRaises(NeedError, uniting.as_one, UNITS, thing)
+            self.assertRaises(NeedError, values.flat_of, ((), ("word",)), thing)
+            self.assertIs(values.is_value(((), ("word",)), thing), False)
+            self.assertRaises(NeedError, spotchecker.lets_spot, LOOP, thing)
+            self.assertRaises(NeedError, joining.lets_placing, graphing.graph_of(DOWN, "down"), thing)
+            self.assertRaises(NeedError, unitclasses.Written(MAIN).part_at, thing)
+            self.assertRaises(NeedError, unitclasses.Written(MAIN).put, thing)
+            self.assertRaises(NeedError, unitsclasses.House(*UNITS).put, thing)
             self.assertEqual(thing, before)
 
     def test_checks_give_bools(self):
@@ -120,7 +145,8 @@ class ArgumentsTest(unittest.TestCase):
     def test_an_error_keeps_the_very_value(self):
         thing = ["main"]
         for function, first in ((placing.places_in, MAIN), (placing.kinds_in, MAIN), (structures.signature_of, MAIN),
-                                (graphing.graph_of, MAIN), (ringing.reached_from, FIVE)):
+                                (graphing.graph_of, MAIN), (ringing.reached_from, FIVE), (unitclasses.Written.body_of, unitclasses.Written(MAIN)),
+                                (unitsclasses.House.unit_of, unitsclasses.House(*UNITS))):
             try:
                 function(first, thing)
             except NeedError as error:

@@ -164,7 +164,7 @@ class CodeTest(unittest.TestCase):
 
     def test_names(self):
         for name, tree in trees():
-            own = {node.name for node in ast.walk(tree) if isinstance(node, (ast.FunctionDef, ast.ClassDef))}
+            own = {node.name for node in tree.body if isinstance(node, (ast.FunctionDef, ast.ClassDef))}
             imported = {alias.name for node in tree.body if isinstance(node, ast.ImportFrom) for alias in node.names}
             classes = {node.name for node in tree.body if isinstance(node, ast.ClassDef)}
             for node in ast.walk(tree):

@@ -1,17 +1,14 @@
-"""The sheets of an object that lacks nothing."""
+"""The sheets of an object without uses."""
 
 from linkneed.errors import Missing
 from linkneed.rowkinds import open_rows_of
 
 
 def sheets_of_object(one):
-    """The sheets of the object's pieces, ascending; Missing if it has a use, or no main."""
+    """The sheets of the object's pieces, ascending; Missing of the least use, if it has one."""
     if len(one[0]) > 0:
         raise Missing(one[0][0][0])
-    sheets = tuple([_sheet_of_piece(piece) for piece in one[1]])
-    if not any([sheet[0] == "main" for sheet in sheets]):
-        raise Missing("main")
-    return sheets
+    return tuple([_sheet_of_piece(piece) for piece in one[1]])
 
 
 def _sheet_of_piece(piece):

@@ -24,7 +24,8 @@ def _step_rows(step, ahead, behind):
     makes, verb, reads, note = step
     read = tuple([ahead.index(mark) for mark in reads])
     if verb == "call":
-        held = tuple([ahead.index(mark) for mark in behind if mark is not None and mark not in makes])
+        # Behind a call just the marks across it and those that it makes stand, without a gap.
+        held = tuple([ahead.index(mark) for mark in behind if mark not in makes])
         return [("call", note[0], note[1], held, read, len(makes))]
     made = tuple([behind.index(mark) for mark in makes])
     if verb == "copy":

@@ -60,7 +60,6 @@ def closed_rings(pairs):
         # The ring is new if this walk itself came upon the register ahead.
         if met.get(at) == start:
             many += 1
-            met[at] = None
     return many
 
 

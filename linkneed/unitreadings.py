@@ -32,8 +32,8 @@ class UnitReading:
         self.open_parts = []
 
     def is_whole(self):
-        """Whether the lines are a text."""
-        return self.unit_title is not None and len(self.open_parts) == 0
+        """Whether the lines, at least one, are a text."""
+        return len(self.open_parts) == 0
 
     def unit_read(self):
         """The unit of a whole text."""

@@ -4,6 +4,7 @@ from itertools import permutations
 
 from linkneed.bundling import bundle
 from linkneed.compiling import compile_unit
+from linkneed.errors import LinkError
 from linkneed.rowkinds import is_object
 from tests.checks import refusal, unusable
 from tests.samples import A, B, MAIN, ODD_VALUES, RING, TWICE
@@ -74,6 +75,36 @@ class BundlingTest(unittest.TestCase):
                     many = source.randrange(1, len(parts) + 1)
                     parts = parts[many:] + [bundle(tuple(parts[:many]))]
                 self.assertEqual(parts[0], whole)
+
+    def test_an_error_in_any_order_and_grouping(self):
+        uses = [("f", takes, gives) for takes in ((), ("word",)) for gives in ("word", OPT)]
+        failing = 0
+        for seed in range(200):
+            source = random.Random(seed)
+            objects = []
+            for at in range(source.randrange(2, 5)):
+                pieces = [named("f", source.choice(("word", OPT)))] if source.random() < 0.3 else []
+                pieces += [named(source.choice(("g", f"h{at}")))] if source.random() < 0.5 else []
+                used = [source.choice(uses)] if (not pieces or pieces[0][0] != "f") and source.random() < 0.7 else []
+                objects.append((tuple(used), tuple(pieces)))
+            told = [self.grouped(source, objects) for _ in range(6)]
+            if isinstance(told[0], tuple):
+                self.assertEqual(told, [told[0]] * 6)
+            else:
+                failing += 1
+                self.assertTrue(all(isinstance(one, LinkError) for one in told))
+        self.assertTrue(30 < failing < 170)
+
+    def grouped(self, source, objects):
+        parts = list(objects)
+        source.shuffle(parts)
+        try:
+            while len(parts) > 1:
+                many = source.randrange(1, len(parts) + 1)
+                parts = parts[many:] + [bundle(tuple(parts[:many]))]
+        except LinkError as error:
+            return error
+        return parts[0]
 
     def test_refusals(self):
         for thing in [thing for thing in ODD_VALUES if thing != ()] + [

@@ -48,6 +48,10 @@ class LayingTest(unittest.TestCase):
         self.assertEqual(laid(B, (("main", 3), ("twice", 6)), (("twice",), ("main",))), (
             ("beat",), ("move", 6, 3), ("call", "twice", 0), ("move", 4, 6), ("add", 3, 4, 3), ("back",)))
 
+    def test_any_bases(self):
+        self.assertEqual(laid(B, (("main", 3), ("twice", 0)), ()), (
+            ("beat",), ("move", 0, 3), ("call", "twice", 0), ("move", 4, 0), ("add", 3, 4, 3), ("back",)))
+
     def test_what_is_held_moves_down(self):
         piece = piece_of(FAR, ("word",) * 3, "word")
         self.assertEqual(laid(piece, (("far", 0), ("twice", 1)), ()), (

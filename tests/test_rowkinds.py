@@ -22,7 +22,7 @@ class RowTest(unittest.TestCase):
             self.assertIs(is_row(row), True)
 
     def test_other_values(self):
-        for thing in [thing for thing in ODD_VALUES if thing != ("beat",)] + [OPEN, ("twice", 0), ("number",), "beat"]:
+        for thing in [thing for thing in ODD_VALUES if thing != ("beat",)] + [OPEN, ("twice", 0), ("number",), "beat", ([],), ([0], 1)]:
             self.assertIs(is_row(thing), False)
 
     def test_other_lengths_and_parts(self):
@@ -56,7 +56,8 @@ class PieceTest(unittest.TestCase):
                                    A[:1] + (("words",),) + A[2:], A[:1] + ("word",) + A[2:], A[:1] + (((),),) + A[2:],
                                    A[:2] + ((),) + A[3:], A[:2] + (["word"],) + A[3:], A[:2] + (("word",),) + A[3:],
                                    A[:2] + ((["word"],),) + A[3:], A[:2] + (None,) + A[3:], A[:3] + (-1,) + A[4:],
-                                   A[:3] + (True,) + A[4:], A[:3] + ("1",) + A[4:], A[:4] + ((),), A[:4] + ([A[4]],),
+                                   A[:3] + (True,) + A[4:], A[:3] + ("1",) + A[4:], A[:4] + ((),), A[:4] + ([A[4]],), A[:4] + (list(A[4]),),
+                                   A[:2] + ((("word",), ("words",)),) + A[3:], A[:2] + ((None, ()),) + A[3:],
                                    A[:4] + ((list(A[4][0]),),), A[:4] + (A[4][0],), A[:4] + (((None, ("back",)),),)):
             self.assertIs(is_piece(thing), False)
 
@@ -90,7 +91,7 @@ class PieceTest(unittest.TestCase):
                     ("call", "f", True, (), (), 1), ("call", "f", 0, (0, 0), (), 1), ("call", "f", 0, [0], (), 1),
                     ("call", "f", 0, (), [0], 1), ("call", "f", 0, (-1,), (), 1), ("call", "f", 0, (), (True,), 1),
                     ("call", "f", 0, (), (), -1), ("call", "f", 0, (), (), True), ("call", "f", 0, (), (), None),
-                    ["call", "f", 0, (), (), 1], ("call", "f", 0, 0, 0, 1)):
+                    ["call", "f", 0, (), (), 1], ("call", "f", 0, 0, 0, 1), ("tell", "f", 0, (), (), 1)):
             self.assertIs(is_piece(piece(((row, ("back",)),))), False)
 
     def test_endings(self):
@@ -106,6 +107,7 @@ class PieceTest(unittest.TestCase):
 
     def test_jumps_name_blocks(self):
         self.assertIs(is_piece(piece(((("jump", 1),), (("back",),)))), True)
+        self.assertIs(is_piece(piece(((("nought", 0, 2),), (("jump", 2),), (("back",),)), 1)), True)
         self.assertIs(is_piece(piece(((("jump", 2),), (("back",),)))), False)
         self.assertIs(is_piece(piece(((("nought", 0, 2),), (("back",),)))), False)
 
@@ -120,7 +122,8 @@ class ObjectTest(unittest.TestCase):
 
     def test_objects(self):
         use = ("twice", ("word",), "word")
-        for thing in (((), ()), ((use,), ()), ((use,), (B,)), ((("a", (), OPT), use), (B,)), ((), (RING,))):
+        for thing in (((), ()), ((use,), ()), ((use,), (B,)), ((("a", (), OPT), use), (B,)), ((), (RING,)),
+                      ((("a", ("word",), OPT), ("b", (), "word"), ("c", (), OPT)), ())):
             self.assertIs(is_object(thing), True)
 
     def test_sets_are_ascending(self):
@@ -137,6 +140,9 @@ class ObjectTest(unittest.TestCase):
                                    (("word",), OPT, False), (("word",), ((),), False), ((((), ()),), "word", True),
                                    (("word", ((),)), (("word",),), True)):
             self.assertIs(is_object(((("twice", takes, gives),), (B,))), fits)
+        caller = piece(((("call", "f", 0, (0, 1), (2,), 1), ("back",)),))
+        for takes, fits in (((), False), (("word",), True), (("word", "word"), False)):
+            self.assertIs(is_object(((("f", takes, "word"),), (caller,))), fits)
 
     def test_forms(self):
         use = ("twice", ("word",), "word")

@@ -112,7 +112,8 @@ class ReadingTest(unittest.TestCase):
                      "(add 1)", "(add 1 1 1)", "(add 1 1", "(add 1 1))", "add 1 1", "( add 1 1)", "(add 1 1 )", "(add  1 1)", "(call)",
                      "(call 1)", "(call f", "(call (call f))", "(call word)", "(call f 1 word)", "(case s)", "(case s 1)", "(case 1 c)",
                      "(case s (call f))", "(case s c 01)", "(number 1)", "(name x)", "(let x 1)", "(add 1 1) ", "(add 1 (sub 1 1)",
-                     "((add 1 1))", "(add (1) 1)", "(add 1 1)(add 1 1)", "(add 1 1)x", "x(", "(", ")", "(add 1 1)1", "(sub\t1 1)", "x y"):
+                     "((add 1 1))", "(add (1) 1)", "(add 1 1)(add 1 1)", "(add 1 1)x", "x(", "(", ")", "(add 1 1)1", "(sub\t1 1)", "x y",
+                     "call)", "case)", "call f)", "x (call f", "1 (add 1 1"):
             self.assertEqual(refusal(read_unit, in_function("tell " + text, "end")), invalid(2))
         for text, expression in (
                 ("0", ("number", 0)), ("65535", ("number", 65535)), ("x", ("name", "x")), ("(call f)", ("call", "f", ())),

@@ -17,12 +17,12 @@ def across_at(graph, block, index):
 
 
 def calls_across(graph):
-    """The list of the pairs (step, set of the marks across it) of all calls, in order of blocks and steps."""
+    """The list of the quadruples (block, index, called title, set of the marks across) of all calls, in order."""
     found = []
-    for block, awaited in zip(graph[2], awaited_at_spots(graph)):
-        for index, step in enumerate(block[1]):
+    for number, awaited in enumerate(awaited_at_spots(graph)):
+        for index, step in enumerate(graph[2][number][1]):
             if step[1] == "call":
-                found.append((step, _across(step, awaited[index + 1])))
+                found.append((number, index, step[3][0], _across(step, awaited[index + 1])))
     return found
 
 

@@ -6,9 +6,9 @@ from linkneed.graphparts import ending_reads, is_safe, number_words
 def spare_marks(graph):
     """The set of marks whose drop deed is due and that has all other such sets in it; () if there is none."""
     words = number_words(graph)
-    sources = _sources_of(graph, words)
+    sources = sources_of(graph, words)
     needed = {}
-    pending = _read_by_the_rest(graph, words)
+    pending = read_by_the_rest(graph, words)
     while pending:
         mark = pending.pop()
         if mark not in needed:
@@ -17,8 +17,8 @@ def spare_marks(graph):
     return tuple(sorted([mark for mark in sources if mark not in needed]))
 
 
-def _sources_of(graph, words):
-    # For each mark that may go what is read for it alone.
+def sources_of(graph, words):
+    """A dict that has for each mark that may go the marks read for it alone; words are those of number_words."""
     sources = {}
     for block in graph[2]:
         for step in block[1]:
@@ -35,8 +35,8 @@ def _sources_of(graph, words):
     return sources
 
 
-def _read_by_the_rest(graph, words):
-    # What steps that stay in any case, and endings that give or choose, read.
+def read_by_the_rest(graph, words):
+    """The list of what steps that stay in any case, and endings that give or choose, read."""
     read = []
     for block in graph[2]:
         for step in block[1]:

@@ -8,7 +8,7 @@ from linkneed.orders import dominator_tables, forward_order
 def due_folds(graph):
     """The set of the number deeds and same deeds that are due."""
     words = number_words(graph)
-    read = _marks_read(graph)
+    read = marks_read(graph)
     handings = handings_of(graph)
     found = {}
     for number, block in enumerate(graph[2]):
@@ -17,7 +17,7 @@ def due_folds(graph):
             if number != 0 and mark in read and other is not None:
                 found[("same", mark, other)] = True
         for step in block[1]:
-            word = _known_word(step, words)
+            word = known_word(step, words)
             if word is not None:
                 found[("number", step[0][0], word)] = True
             if step[1] == "copy" and step[0][0] in read:
@@ -27,7 +27,8 @@ def due_folds(graph):
     return tuple(sorted(found))
 
 
-def _marks_read(graph):
+def marks_read(graph):
+    """A dict whose keys are the marks that are read somewhere."""
     read = {}
     for block in graph[2]:
         for step in block[1]:
@@ -46,15 +47,16 @@ def _only_other(mark, handed):
     return None
 
 
-def _known_word(step, words):
+def known_word(step, words):
+    """The word to which an operation of known words comes; None for a fault, or where it is not known."""
     reads = step[2]
     if step[1] not in OPERATIONS or reads[0] not in words or reads[1] not in words:
         return None
     return operated(step[1], words[reads[0]], words[reads[1]])
 
 
-def _twice_key(step):
-    # Steps with one key make the same word; None for steps that no second one can stand for.
+def twice_key(step):
+    """What is one for steps that make the same word; None for steps that no second one can stand for."""
     if step[1] == "number":
         return (step[1], (), step[3])
     if step[1] in OPERATIONS:
@@ -68,7 +70,7 @@ def _due_twice(graph, read):
     alike = {}
     for block in graph[2]:
         for step in block[1]:
-            key = _twice_key(step)
+            key = twice_key(step)
             if key is not None:
                 alike.setdefault(key, []).append(step[0][0])
     found = []
@@ -152,13 +154,13 @@ class Folding:
         return handers
 
     def _fold_step(self, block, index, alike):
-        word = _known_word(self.rows[block][index], self.known_words)
+        word = known_word(self.rows[block][index], self.known_words)
         if word is not None:
             self._make_number(block, index, word)
         step = self.rows[block][index]
         if step[1] == "copy":
             self._make_same(step[0][0], step[2][0])
-        key = _twice_key(step)
+        key = twice_key(step)
         if key is None:
             return
         mark = step[0][0]

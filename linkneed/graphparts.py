@@ -45,9 +45,26 @@ def renamed_ending(ending, names):
     return ("give", renamed_marks(ending[1], names))
 
 
+def renamed_graph(graph, names):
+    """The graph with other marks read everywhere, by a dict."""
+    blocks = []
+    for takes, steps, ending in graph[2]:
+        renamed = tuple([renamed_step(step, names) for step in steps])
+        blocks.append((takes, renamed, renamed_ending(ending, names)))
+    return (graph[0], graph[1], tuple(blocks))
+
+
 def renamed_marks(marks, names):
     """The marks, each one that is a key of names replaced."""
     return tuple([names.get(mark, mark) for mark in marks])
+
+
+def with_steps(graph, number, steps):
+    """The graph with other steps in one block."""
+    blocks = list(graph[2])
+    takes, _, ending = blocks[number]
+    blocks[number] = (takes, steps, ending)
+    return (graph[0], graph[1], tuple(blocks))
 
 
 def number_words(graph):
@@ -72,3 +89,11 @@ def makings_of(graph):
             for mark in step[0]:
                 makings[mark] = (number, index)
     return makings
+
+
+def step_at(graph, place):
+    """The step at such a position; None for an entry."""
+    block, index = place
+    if index < 0:
+        return None
+    return graph[2][block][1][index]

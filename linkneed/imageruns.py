@@ -3,27 +3,10 @@
 from linkneed.errors import NotUsable
 from linkneed.kinds import is_number, is_word
 from linkneed.operations import OPERATIONS, operated
+from linkneed.wordcodes import (
+    BACK, BEAT, CALL, KEEP, LONG_JUMP, LONG_NOUGHT, MOVE, NUMBER, PLAIN, SHORT_JUMP, SHORT_OFFSET, SWAP, TELL, parts_of)
 
 MOST_OPEN = 16
-
-# The first four bits of a row's first word; the operations stand between SWAP and SHORT_JUMP.
-PLAIN = 0
-NUMBER = 1
-MOVE = 2
-SWAP = 3
-SHORT_JUMP = 11
-LONG_JUMP = 12
-LONG_NOUGHT = 14
-CALL = 15
-
-# What a short jump's distance is raised by.
-SHORT_OFFSET = 8
-
-# The next four bits of a plain row.
-BEAT = 0
-BACK = 1
-TELL = 2
-KEEP = 3
 
 
 def run_image(image, args, most):
@@ -57,8 +40,7 @@ class ImageRun:
 
     def row(self):
         """Does the row at the present address; the end of the run, or None if it goes on."""
-        first = self.image_words[self.at]
-        verb, b, c, d = first // 4096, first // 256 & 15, first // 16 & 15, first & 15
+        verb, b, c, d = parts_of(self.image_words[self.at])
         if verb == PLAIN:
             return self._plain_row(b, c)
         if verb == CALL:

@@ -162,13 +162,13 @@ class LiveBench:
         # The state that the event would leave; counts what is compiled for it, and a refusal.
         try:
             state = state_behind(self._state(), event)
-            self._check_bundle(event, state)
+            self._check_state(event, state)
         except InvalidEvent:
             self.many_refused += 1
             raise
         return state
 
-    def _check_bundle(self, event, state):
+    def _check_state(self, event, state):
         try:
             self._bundled(state)
         except Twice:

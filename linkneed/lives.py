@@ -15,8 +15,8 @@ def awaited_at(graph, block, index):
 
 def alive_at(graph, block, index):
     """The set of the marks alive at the spot of a block."""
-    _check_spot(graph, block, index)
-    return tuple(sorted(_alive_in_block(graph[2][block], awaited_at_spots(graph)[block])[index]))
+    check_spot(graph, block, index)
+    return alive_spots(graph)[block][index]
 
 
 def crowd_at(graph, block, index):
@@ -28,10 +28,12 @@ def crowd_at(graph, block, index):
 
 def crowds_of(graph):
     """For each block the tuple of the crowds of its spots."""
-    crowds = []
-    for block, spots in zip(graph[2], awaited_at_spots(graph)):
-        crowds.append(tuple([len(alive) for alive in _alive_in_block(block, spots)]))
-    return tuple(crowds)
+    return tuple([tuple([len(alive) for alive in spots]) for spots in alive_spots(graph)])
+
+
+def alive_spots(graph):
+    """For each block the list of the sets of the marks alive at its spots."""
+    return [_alive_in_block(block, spots) for block, spots in zip(graph[2], awaited_at_spots(graph))]
 
 
 def _alive_in_block(block, spots):
@@ -42,7 +44,7 @@ def _alive_in_block(block, spots):
         here = dict(awaited)
         for mark in makes:
             here[mark] = True
-        alive.append(here)
+        alive.append(tuple(sorted(here)))
     return alive
 
 
@@ -52,11 +54,12 @@ def _is_behind_giving(graph, block, index):
         if not is_number(index) or index != 0:
             raise NotUsable("index", -1)
         return True
-    _check_spot(graph, block, index)
+    check_spot(graph, block, index)
     return False
 
 
-def _check_spot(graph, block, index):
+def check_spot(graph, block, index):
+    """Refuses what is no spot of a block."""
     if not is_block(graph, block):
         raise NotUsable("block", -1)
     if not is_number(index) or index > len(graph[2][block][1]):

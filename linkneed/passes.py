@@ -11,12 +11,12 @@ PASSES = ("fold", "drop", "straighten", "lift")
 
 def passed(graph, names):
     """The graph behind the passes of these names."""
-    return _walked(graph, names)[0]
+    return walked(graph, names)[0]
 
 
 def pass_deeds(graph, names):
     """Deeds that make what passed gives, in the order in which they are done."""
-    return _walked(graph, names)[1]
+    return walked(graph, names)[1]
 
 
 def are_passes(thing):
@@ -24,7 +24,8 @@ def are_passes(thing):
     return isinstance(thing, tuple) and all([name in PASSES for name in thing])
 
 
-def _walked(graph, names):
+def walked(graph, names):
+    """The pair of what passed and pass_deeds give."""
     if not are_passes(names):
         raise NotUsable("names", -1)
     told = []

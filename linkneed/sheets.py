@@ -25,7 +25,7 @@ def is_sheets(thing):
 
 def sheet_of(graph):
     """The sheet of a settled graph."""
-    calls = tuple([(step[3][0], len(across)) for step, across in calls_across(graph)])
+    calls = tuple([(called, len(across)) for _, _, called, across in calls_across(graph)])
     return (graph[0], own_need(graph), calls)
 
 

@@ -1,9 +1,9 @@
 """Stands: which mark is in which register at each spot of a settled graph."""
 
 from linkneed.awaiting import awaited_at_spots
-from linkneed.errors import NotUsable
 from linkneed.kinds import is_number
-from linkneed.orders import dominators, forward_order, is_block
+from linkneed.lives import check_spot
+from linkneed.orders import dominators, forward_order
 
 
 def stands_of(graph):
@@ -68,10 +68,7 @@ def _trimmed(stand):
 
 def register_at(graph, block, index, one):
     """The register of the mark one at the spot; None if it does not stand there."""
-    if not is_block(graph, block):
-        raise NotUsable("block", -1)
-    if not is_number(index) or index > len(graph[2][block][1]):
-        raise NotUsable("index", -1)
+    check_spot(graph, block, index)
     stand = stands_of(graph)[block][index]
     if is_number(one) and one in stand:
         return stand.index(one)

@@ -1,6 +1,6 @@
 """Straight deeds and join deeds: choices that are known, and blocks that follow only one other."""
 
-from linkneed.graphparts import number_words, renamed_ending, renamed_step
+from linkneed.graphparts import number_words, renamed_graph
 from linkneed.orders import all_leaders, forward_order
 
 
@@ -12,26 +12,23 @@ def straightened(graph):
 def straighten_pass(graph):
     """The pair of the straightened graph and the deeds that make it."""
     told = []
-    block = least_straight(graph)
-    while block is not None:
-        told.append(("straight", block))
-        graph = made_straight(graph, block)
-        block = least_straight(graph)
-    block = least_join(graph)
-    while block is not None:
-        told.append(("join", block))
-        graph = joined(graph, block)
-        block = least_join(graph)
+    blocks = straight_blocks(graph)
+    while blocks:
+        told.append(("straight", blocks[0]))
+        graph = made_straight(graph, blocks[0])
+        blocks = straight_blocks(graph)
+    blocks = join_blocks(graph)
+    while blocks:
+        told.append(("join", blocks[0]))
+        graph = joined(graph, blocks[0])
+        blocks = join_blocks(graph)
     return (graph, tuple(told))
 
 
-def least_straight(graph):
-    """The least block whose straight deed is due; None if there is none."""
+def straight_blocks(graph):
+    """The list of the blocks whose straight deed is due, ascending."""
     words = number_words(graph)
-    for number, block in enumerate(graph[2]):
-        if block[2][0] == "by" and block[2][1] in words:
-            return number
-    return None
+    return [number for number, block in enumerate(graph[2]) if block[2][0] == "by" and block[2][1] in words]
 
 
 def made_straight(graph, block):
@@ -64,13 +61,10 @@ def _recounted(ending, numbers):
     return ending
 
 
-def least_join(graph):
-    """The least block whose join deed is due; None if there is none."""
+def join_blocks(graph):
+    """The list of the blocks whose join deed is due, ascending."""
     coming = all_leaders(graph)
-    for number, block in enumerate(graph[2]):
-        if block[2][0] == "to" and len(coming[block[2][1]]) == 1:
-            return number
-    return None
+    return [number for number, block in enumerate(graph[2]) if block[2][0] == "to" and len(coming[block[2][1]]) == 1]
 
 
 def joined(graph, block):
@@ -80,11 +74,6 @@ def joined(graph, block):
     blocks = list(graph[2])
     blocks[block] = (takes, steps + graph[2][follower][1], graph[2][follower][2])
     names = dict(zip(graph[2][follower][0], ending[2]))
-    renamed = tuple([_renamed_block(one, names) for one in blocks])
+    renamed = renamed_graph((graph[0], graph[1], tuple(blocks)), names)
     kept = [number for number in range(len(blocks)) if number != follower]
-    return with_blocks((graph[0], graph[1], renamed), kept)
-
-
-def _renamed_block(block, names):
-    steps = tuple([renamed_step(step, names) for step in block[1]])
-    return (block[0], steps, renamed_ending(block[2], names))
+    return with_blocks(renamed, kept)

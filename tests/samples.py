@@ -69,12 +69,13 @@ class SettledMaker:
         self.few_words = few_words
         self.fresh = 0
 
-    def graph(self):
+    def graph(self, title="g", taken=None, gives=None):
         self.fresh = 0
         endings, joins = self._wiring()
-        gives = self.random.randrange(3)
+        if gives is None:
+            gives = self.random.randrange(3)
         takes = {block: self._marks(self.random.randrange(4)) for block in joins}
-        takes[0] = self._marks(self.random.randrange(4))
+        takes[0] = self._marks(self.random.randrange(4) if taken is None else taken)
         blocks = {}
         at_end = {}
         for block in _dominance_first(endings):
@@ -87,7 +88,7 @@ class SettledMaker:
         for block in range(len(endings)):
             ending = self._ending(endings[block], takes, at_end[block][0], gives)
             whole.append(blocks[block] + (ending,))
-        return self._shuffled(("g", gives, tuple(whole)))
+        return self._shuffled((title, gives, tuple(whole)))
 
     def _wiring(self):
         endings = [None]
@@ -142,10 +143,13 @@ class SettledMaker:
         if verb == "tell":
             return ((), verb, (pick(),), 0)
         if verb == "call":
-            reads = tuple(pick() for _ in range(self.random.randrange(3)))
-            return (tuple(self._marks(self.random.randrange(4))), verb, reads, ("f", self.random.randrange(9)))
+            return self._call(pick)
         note = self.random.randrange(5) if verb in ("div", "rem") else 0
         return (tuple(self._marks(1)), verb, (pick(), pick()), note)
+
+    def _call(self, pick):
+        reads = tuple(pick() for _ in range(self.random.randrange(3)))
+        return (tuple(self._marks(self.random.randrange(4))), "call", reads, ("f", self.random.randrange(9)))
 
     def _ending(self, ending, takes, marks, gives):
         if ending[0] == "to":

@@ -191,6 +191,64 @@ class CodeTest(unittest.TestCase):
                 if isinstance(node, ast.Attribute):
                     self.assertNotIn(node.attr, ("register", "mro", "elements", "open", "input", "law", "args"))
 
+    def test_names_of_class_parts(self):
+        plain, decorated, attributes = set(), set(), set()
+        for name, tree in trees():
+            for node in tree.body:
+                if isinstance(node, ast.ClassDef):
+                    here = set()
+                    for function in functions_in(node):
+                        marks = [mark.id for mark in function.decorator_list]
+                        (decorated if marks else plain).add(function.name)
+                        here.add(function.name)
+                    own = {one.attr for one in ast.walk(node) if isinstance(one, ast.Attribute) and isinstance(one.ctx, ast.Store)}
+                    self.assertFalse(here & own, (name, node.name))
+                    attributes |= own
+        self.assertFalse(decorated & (plain | attributes))
+        self.assertFalse(decorated & METHODS)
+        self.assertFalse(attributes & {"items", "keys", "values", "pop", "update", "append", "clear", "extend", "insert", "remove",
+                                       "reverse", "setdefault", "sort", "args", "encode", "decode", "hex", "format"})
+
+    def test_classes_with_items_are_iterated_over(self):
+        for name, tree in trees():
+            for node in ast.walk(tree):
+                if isinstance(node, ast.ClassDef):
+                    methods = {function.name: function for function in functions_in(node)}
+                    if "__getitem__" in methods:
+                        self.assertIn("__iter__", methods)
+                    for function in methods.values():
+                        if function.name == "__iter__":
+                            self.assertRegex(ast.unparse(function.body[-1]), r"^return iter\(self\.\w+\)$")
+                            self.assertEqual(len(function.body), 1)
+        for name, text in sources():
+            for word in ("(type)", "Meta", "metaclass="):
+                self.assertNotIn(word, text, name)
+
+    def test_what_stands_behind_stars(self):
+        for name, tree in trees():
+            for node in ast.walk(tree):
+                if isinstance(node, ast.Call):
+                    stars = [at for at, one in enumerate(node.args) if isinstance(one, ast.Starred)]
+                    for one in node.args[stars[0]:] if stars else []:
+                        one = one.value if isinstance(one, ast.Starred) else one
+                        self.assertIsInstance(one, (ast.Name, ast.Attribute, ast.Constant), (name, node.lineno))
+
+    def test_names_of_caught_errors(self):
+        for name, tree in trees():
+            for function in functions_in(tree):
+                caught = [node.name for node in ast.walk(function) if isinstance(node, ast.ExceptHandler) and node.name]
+                self.assertEqual(len(caught), len(set(caught)), (name, function.name))
+                self.assertFalse(set(caught) & set(bound_in(function)), (name, function.name))
+
+    def test_operators_and_properties_change_no_object(self):
+        read_only = {"__eq__", "__len__", "__str__", "__contains__", "__getitem__", "__iter__"}
+        for name, tree in trees():
+            for function in functions_in(tree):
+                if function.name in read_only or any(mark.id == "property" for mark in function.decorator_list):
+                    for node in ast.walk(function):
+                        if isinstance(node, (ast.Attribute, ast.Subscript)):
+                            self.assertNotIsInstance(node.ctx, (ast.Store, ast.Del), (name, function.name))
+
     def test_sets_are_kept_in_their_places(self):
         for name, tree in trees():
             for node in ast.walk(tree):

@@ -2,7 +2,7 @@
 
 from linkneed.errors import NotUsable
 from linkneed.kinds import is_number, is_word
-from linkneed.operations import OPERATIONS, operated
+from linkneed.operations import operated
 
 MOST_OPEN = 16
 
@@ -103,7 +103,7 @@ class GraphRun:
             frame.mark_words[makes[0]] = note
         elif verb == "copy":
             frame.mark_words[makes[0]] = words[0]
-        elif verb in OPERATIONS:
+        else:
             word = operated(verb, words[0], words[1])
             if word is None:
                 self.end = ("fault", "nought", frame.title, note)
@@ -126,5 +126,6 @@ class GraphRun:
         if len(self.frames) == 0:
             self.end = ("gave", words)
             return
+        caller = self.frames[-1]
         for mark, word in zip(self.awaiting_marks.pop(), words):
-            self.frames[-1].mark_words[mark] = word
+            caller.mark_words[mark] = word

@@ -4,7 +4,7 @@ from linkneed.layouts import addresses_of, least_long
 from linkneed.operations import OPERATIONS
 from linkneed.wordcodes import (
     CALL, LONG_JUMP, LONG_NOUGHT, MOVE, NUMBER, PLAIN, PLAIN_VERBS, SHORT_HIGH, SHORT_JUMP, SHORT_LOW, SHORT_NOUGHT,
-    SHORT_OFFSET, SWAP, TWO_WORDS, parts_of, word_of)
+    SHORT_OFFSET, SWAP, parts_of, word_of)
 
 PLACED_VERBS = ("div", "rem", "call")
 
@@ -85,7 +85,7 @@ def rows_in(words):
     while at < len(words):
         behind = None
         length = 1
-        if parts_of(words[at])[0] in TWO_WORDS:
+        if parts_of(words[at])[0] in (NUMBER, LONG_JUMP, LONG_NOUGHT, CALL):
             behind = words[at + 1]
             length = 2
         rows.append((at, _row_of(words[at], at, behind)))

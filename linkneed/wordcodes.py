@@ -11,9 +11,6 @@ SHORT_NOUGHT = 13
 LONG_NOUGHT = 14
 CALL = 15
 
-# The rows whose first word has a word behind it.
-TWO_WORDS = (NUMBER, LONG_JUMP, LONG_NOUGHT, CALL)
-
 # What a short jump's distance is raised by, and the distances that it may have.
 SHORT_OFFSET = 8
 SHORT_LOW = -8

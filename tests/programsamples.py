@@ -1,7 +1,5 @@
 """Random programs of settled graphs, and what the document says of their moments and holdings, told plainly."""
 
-import random
-
 from tests import linkoracles, oracles
 from tests.samples import SettledMaker
 

@@ -12,14 +12,14 @@ from linkneed.passes import pass_deeds, passed
 from linkneed.settling import settled
 from tests import oracles
 from tests.checks import refusal, same_kind, unusable
-from tests.samples import BEAT, LOOP, ODD_VALUES, ONE, PICK, SIX, TWO, settled_graphs
+from tests.samples import BEAT, LOOP, ODD_VALUES, PICK, SIX, TWO, settled_graphs
 from tests.unitsamples import GraphRun, TreeRun, bound_units, some_args
 
 NO_DEEDS = ODD_VALUES + (
     ("number", 2), ("number", 2, 65536), ("number", 2, -1), ("number", -1, 2), ("number", True, 2), ("number", 2, True),
     ("number", 2, 3, 0), ("number", "2", 3), ["number", 2, 3], ("same", 1), ("same", 1, None), ("same", -1, 1), ("same", 1, False),
     ("same", 1, 2, 3), ("drop",), ("drop", ()), ("drop", [2]), ("drop", (2, 2)), ("drop", (3, 2)), ("drop", (True,)),
-    ("drop", (-1, 2)), ("drop", 2), ("drop", (2,), ()), ("drop", ((2,),)), ("drop", None), ("straight",), ("straight", -1),
+    ("drop", (-1, 2)), ("drop", 2), ("drop", (2,), ()), ("drop", ((2,),)), ("drop", None), ("drops", (2,)), (None, (2,)), ("straight",), ("straight", -1),
     ("straight", None), ("straight", 0, 0), ("straight", True), ("join",), ("join", "0"), ("join", 1, 2), ("join", False),
     ("ahead", 1), ("ahead", 1, -1), ("ahead", 1, True), ("ahead", (1,), 0), ("ahead", 1, 0, 0), ("fold", 1, 2), (("same",), 1, 2),
     (None, 1, 2), ([], 1, 2))

@@ -7,7 +7,7 @@ from linkneed.eventreadings import read_event
 from linkneed.eventtexts import event_line
 from linkneed.live import LiveBench
 from tests.checks import refusal, unusable
-from tests.samples import ALONE, CASES, MAIN, ODD_VALUES, RING, TWICE
+from tests.samples import ALONE, CASES, MAIN, ODD_VALUES, TWICE
 from tests.test_live import OTHER_TWICE, OTHER_USE, RandomTest, UNFIT
 
 PUT_MAIN, PUT_TWICE = event_line(("put", MAIN)), event_line(("put", TWICE))
@@ -81,7 +81,6 @@ class DeskTest(unittest.TestCase):
 
     def test_by_name(self):
         self.assertEqual(desk(lines=("units",)), ("units",))
-        self.assertEqual(RING[0], "main")
 
     def test_random_lines(self):
         makes = RandomTest()

@@ -42,7 +42,7 @@ from tests import linkoracles
 from tests.checks import refusal, same_kind
 from tests.programsamples import programs
 from tests.test_deeds import due_deeds
-from tests.test_linking import bundled, held_of_ring_calls, sheets_of_pieces
+from tests.test_linking import bundled, sheets_of_pieces
 from tests.unitsamples import bound_units, some_args
 
 NAMES = ((), ("fold", "drop"), ("straighten", "fold", "lift", "drop", "straighten"))
@@ -125,24 +125,16 @@ class OutcomeTest(unittest.TestCase):
         self.assertGreater(met, 150)
 
     def test_the_pile(self):
-        for seed, graphs in enumerate(programs(80, seed=21, rings=0.6)):
-            one = object_of(graphs)
+        for graphs in programs(80, seed=21, rings=0.6):
             if need_of(sheets_of(graphs)) > 16:
                 continue
-            linked = link(one, 16)
-            machine = linkoracles.RowMachine(linked, self.held(graphs), rest=99)
-            args = (seed % 3,) * linked[1]
-            machine.outcome(args, 60)
-            kept = {title: 0 for title, _ in pile_words(graphs)}
-            for title, _, rows in linked[3]:
-                run = 0
+            kept = {}
+            for title, _, rows in link(object_of(graphs), 16)[3]:
+                kept[title] = run = 0
                 for row in rows:
                     run = run + 1 if row[0] == "keep" else 0
                     kept[title] = max(kept[title], run)
             self.assertEqual(tuple(sorted(kept.items())), pile_words(graphs))
-
-    def held(self, graphs):
-        return held_of_ring_calls(object_of(graphs)[1])
 
 
 class NeedTest(unittest.TestCase):
@@ -188,21 +180,21 @@ class NeedTest(unittest.TestCase):
 
 class LinkedRowsTest(unittest.TestCase):
     def test_rows_without_a_change_are_equal(self):
-        for seed in range(60):
-            graphs, others = programs(2, seed=500 + seed, rings=0.3)
-            kept = {graph[0]: graph for graph in graphs}
-            mixed = object_of(graphs)
-            other = object_of(tuple(walked(graph, random.Random(seed), 3) if number == 0 else graph
-                                    for number, graph in enumerate(graphs)))
-            changed = dict(changes_between(mixed, other))
-            if max(need_of(sheets_of_pieces(one[1])) for one in (mixed, other)) > 16:
+        equal = 0
+        for seed, graphs in enumerate(programs(80, seed=23, rings=0.3)):
+            changed_one = seed % len(graphs)
+            others = tuple(walked(graph, random.Random(seed), 3) if number == changed_one else graph
+                           for number, graph in enumerate(graphs))
+            one, other = object_of(graphs), object_of(others)
+            if max(need_of(sheets_of(graphs)), need_of(sheets_of(others))) > 16:
                 continue
-            rows = {title: (base, rows) for title, base, rows in link(mixed, 16)[3]}
+            changes = dict(changes_between(one, other))
+            rows = {title: (base, laid) for title, base, laid in link(one, 16)[3]}
             for title, base, laid in link(other, 16)[3]:
-                if title not in changed:
+                if title not in changes:
                     self.assertEqual(rows[title], (base, laid))
-            self.assertEqual(len(kept), len(graphs))
-            self.assertGreater(len(others), 0)
+                    equal += 1
+        self.assertGreater(equal, 40)
 
 
 class BenchTest(unittest.TestCase):

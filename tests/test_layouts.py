@@ -78,7 +78,7 @@ class LayoutsTest(unittest.TestCase):
                 (("jumps", 0),), [("jump", 0)], (1, None), ((0, 0),)]:
             self.assertEqual(refusal(long_jumps, thing, 1, -1), unusable("things"))
             self.assertEqual(refusal(holds_long, thing, 1, -1, None), unusable("things"))
-        for thing in [thing for thing in ODD_VALUES if thing not in (0, -1, -7, -10 ** 59) or thing is False]:
+        for thing in [thing for thing in ODD_VALUES if thing not in (0, -1, -7, -10 ** 59) or thing is False] + [1]:
             self.assertEqual(refusal(long_jumps, (1,), thing, -1), unusable("low"))
             self.assertEqual(refusal(holds_long, (1,), thing, -1, None), unusable("low"))
         for thing in [thing for thing in ODD_VALUES if thing not in (0, 1, 10 ** 59) or isinstance(thing, bool)]:

@@ -79,6 +79,19 @@ class LinkedTest(unittest.TestCase):
                 args = (0,) * linked[1]
                 self.assertEqual(one.run(args, 20), run_linked(linked, args, 20))
 
+    def test_sixteen_registers_unless_told_otherwise(self):
+        for many in (15, 16, 17):
+            titles = [f"v{number}" for number in range(many)]
+            body = tuple(("let", title, ("number", number)) for number, title in enumerate(titles))
+            body += tuple(("tell", ("name", title)) for title in titles)
+            unit = ("wide", (), (), (("main", (), "word", body),))
+            if many == 17:
+                self.assertEqual(refusal(Linked.of_units, unit), ("Beyond", {"need": 17}))
+            else:
+                one = Linked.of_units(unit)
+                self.assertEqual([one.registers_needed, one.run((), 1)], [many, (tuple(range(many)), ("gave", (0,)), 1)])
+                self.assertEqual(refusal(one.within, many - 1), ("Beyond", {"need": many}))
+
     def test_refusals_in_order(self):
         twice = ("c", (), (), TWICE[3])
         use = ("d", (), (("twice", ("word", "word"), "word"),), ())

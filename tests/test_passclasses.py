@@ -94,7 +94,8 @@ class BetteringTest(unittest.TestCase):
     def test_equality(self):
         one = Bettering.behind(TWO, SAME)
         self.assertTrue(one == Bettering(done(TWO, SAME)) and not one != Bettering(done(TWO, SAME)))
-        self.assertFalse(one == Bettering(TWO))
+        self.assertTrue(Bettering(done(TWO, SAME)) == one)
+        self.assertFalse(one == Bettering(TWO) or Bettering(TWO) == one)
         for thing in (None, TWO, one.graph_now, [one.graph_now], True):
             self.assertFalse(one == thing)
 

@@ -8,6 +8,9 @@ from linkneed.live import LiveBench
 class FirmBench(LiveBench):
     """A LiveBench that refuses events behind which its units do not link any more."""
 
+    def __init__(self, registers, names):
+        super().__init__(registers, names)
+
     def _check_state(self, event, state):
         super()._check_state(event, state)
         if not self._links():

@@ -127,5 +127,6 @@ class GraphRun:
             self.end = ("gave", words)
             return
         caller = self.frames[-1]
-        for mark, word in zip(self.awaiting_marks.pop(), words):
+        makes = self.awaiting_marks.pop()
+        for mark, word in zip(makes, words):
             caller.mark_words[mark] = word
